@@ -1,0 +1,1 @@
+"""Quiltwork: a machine of tiles."""
