@@ -23,30 +23,33 @@ SINGLE_MOST = 227
 PRODUCT_TO_SINGLE = 536870912
 
 
+def is_in_range(number, sign, fraction, least, most):
+    size = number % sign
+    return size == 0 or least <= size // fraction <= most
+
+
 def half_in_range(number):
-    size = number % HALF_SIGN
-    return size == 0 or HALF_LEAST <= size // HALF_FRACTION <= HALF_MOST
+    return is_in_range(number, HALF_SIGN, HALF_FRACTION, HALF_LEAST, HALF_MOST)
 
 
 def single_in_range(number):
-    size = number % SINGLE_SIGN
-    return size == 0 or SINGLE_LEAST <= size // SINGLE_FRACTION <= SINGLE_MOST
+    return is_in_range(number, SINGLE_SIGN, SINGLE_FRACTION, SINGLE_LEAST, SINGLE_MOST)
+
+
+def value_of(number, sign, fraction, least):
+    size = number % sign
+    if size == 0:
+        return 0
+    value = (fraction + size % fraction) << (size // fraction - least)
+    return value if number < sign else -value
 
 
 def half_value(number):
-    size = number % HALF_SIGN
-    if size == 0:
-        return 0
-    value = (HALF_FRACTION + size % HALF_FRACTION) << (size // HALF_FRACTION - HALF_LEAST)
-    return value if number < HALF_SIGN else -value
+    return value_of(number, HALF_SIGN, HALF_FRACTION, HALF_LEAST)
 
 
 def single_value(number):
-    size = number % SINGLE_SIGN
-    if size == 0:
-        return 0
-    value = (SINGLE_FRACTION + size % SINGLE_FRACTION) << (size // SINGLE_FRACTION - SINGLE_LEAST)
-    return value if number < SINGLE_SIGN else -value
+    return value_of(number, SINGLE_SIGN, SINGLE_FRACTION, SINGLE_LEAST)
 
 
 def rounded(value):
