@@ -15,6 +15,11 @@ PAIRS_KIND = 4
 KINDS_WITH_SIGNED_Y = (0, 1)
 KINDS_WITH_SIGNED_Z = (0, 2)
 
+# Of a dot of one row: so many numbers it has, so many bytes and at most so many rows z has.
+ROW_NUMBERS = 16
+ROW_LENGTH = 64
+MOST_ROWS = 16
+
 
 def words_of(row):
     return [
@@ -117,3 +122,21 @@ def pairs_in_range(x_words, y_rows, z_rows):
     if not all([row_in_range(row) for row in y_rows + z_rows]):
         return False
     return all([words_in_range(words) for words in x_words])
+
+
+def dot_in_range(kind, x_words, y_rows, z_rows):
+    # Only of pairs there are numbers that aren't in range.
+    return kind != PAIRS_KIND or pairs_in_range(x_words, y_rows, z_rows)
+
+
+def is_row_dot(kind, rows, c, a, b):
+    if kind > PAIRS_KIND or not 1 <= rows <= MOST_ROWS:
+        return False
+    return len(c) == ROW_NUMBERS and len(a) == 4 * rows and len(b) == ROW_LENGTH * rows
+
+
+# None is answered if a number isn't in range.
+def dot_row(kind, words, y_row, z_rows):
+    if not dot_in_range(kind, [words], [y_row], z_rows):
+        return None
+    return dot(kind, [words], [y_row], z_rows)[0]

@@ -13,6 +13,11 @@ def lies_in_ground(place, length):
     return place + length <= GROUND_SIZE
 
 
+# A row is at most 64 bytes long: it never touches a third page.
+def pages_of_row(place, length):
+    return (place // PAGE_SIZE, (place + length - 1) // PAGE_SIZE)
+
+
 class Ground:
     def __init__(self):
         self.cells = [0] * GROUND_SIZE
@@ -26,10 +31,7 @@ class Ground:
             self.cells[place + offset] = value
 
     def first_closed(self, place, length, wanted):
-        lower = place // PAGE_SIZE
-        upper = (place + length - 1) // PAGE_SIZE
-        # A row is at most 64 bytes long: it never touches a third page.
-        for page in (lower, upper):
+        for page in pages_of_row(place, length):
             if self.pages[page] < wanted:
                 return page
         return None

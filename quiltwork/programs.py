@@ -1,5 +1,6 @@
 """Programs: their steps and shapes, where they stand, and what their steps may be."""
 
+from quiltwork.reader import parts_of
 from quiltwork.shapes import SHAPE_LENGTH
 
 END = 0
@@ -21,12 +22,12 @@ NUMBERS = 8
 
 
 class Step:
-    def __init__(self, numbers):
-        self.kind = numbers[0]
-        self.x = numbers[1]
-        self.y = numbers[2]
-        self.z = numbers[3]
-        self.v = numbers[4]
+    def __init__(self, kind, x, y, z, v):
+        self.kind = kind
+        self.x = x
+        self.y = y
+        self.z = z
+        self.v = v
 
     def is_dot(self):
         return FIRST_DOT <= self.kind <= LAST_DOT
@@ -40,8 +41,8 @@ class Step:
 
 class Program:
     def __init__(self, steps, shapes):
-        self.steps = [Step(steps[q:q + STEP_LENGTH]) for q in range(0, len(steps), STEP_LENGTH)]
-        self.shapes = [shapes[q:q + SHAPE_LENGTH] for q in range(0, len(shapes), SHAPE_LENGTH)]
+        self.steps = steps
+        self.shapes = shapes
         self.at = 0
         self.numbers = [0] * NUMBERS
         self.paid = 0
@@ -54,8 +55,23 @@ class Program:
     def step(self):
         return self.steps[self.at]
 
+    # Steps and shapes are never changed, so both may hold the same ones.
+    def twin(self):
+        other = Program(self.steps, self.shapes)
+        other.at = self.at
+        other.numbers = list(self.numbers)
+        other.paid = self.paid
+        other.ended = self.ended
+        return other
+
 
 def is_program(steps, shapes):
     if len(steps) % STEP_LENGTH != 0 or len(steps) > STEP_LENGTH * MOST_STEPS:
         return False
     return len(shapes) % SHAPE_LENGTH == 0
+
+
+def program_of(steps, shapes):
+    parts = parts_of(steps, STEP_LENGTH)
+    read_steps = [Step(part[0], part[1], part[2], part[3], part[4]) for part in parts]
+    return Program(read_steps, parts_of(shapes, SHAPE_LENGTH))

@@ -19,3 +19,7 @@ class Reader:
         row = self.numbers[self.at:self.at + length]
         self.at += length
         return row
+
+
+def parts_of(row, length):
+    return [row[q:q + length] for q in range(0, len(row), length)]

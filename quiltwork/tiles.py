@@ -1,6 +1,6 @@
 """The eight tiles, as the shape says that they are, and the start row."""
 
-from quiltwork.dots import PAIRS_KIND, dot, pairs_in_range, row_of, words_of
+from quiltwork.dots import dot, dot_in_range, row_of, words_of
 from quiltwork.shapes import heights_in, widths_in, zero_shape
 
 
@@ -51,10 +51,7 @@ class Tiles:
         return [words_of(row) for row in self.rows[t]]
 
     def dot_is_in_range(self, kind, x, y, z):
-        # Only of pairs there are numbers that aren't in range.
-        if kind != PAIRS_KIND:
-            return True
-        return pairs_in_range(self.words(x), self.rows[y], self.rows[z])
+        return dot_in_range(kind, self.words(x), self.rows[y], self.rows[z])
 
     def add_dot(self, kind, x, y, z):
         words = dot(kind, self.words(x), self.rows[y], self.rows[z])

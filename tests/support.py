@@ -42,6 +42,34 @@ def run(rows=4000):
     return [8, rows]
 
 
+def stand():
+    return [9]
+
+
+def dry(rows=4000):
+    return [10, rows]
+
+
+def plan(job):
+    return [11, len(job)] + list(job)
+
+
+def product(i, job):
+    return [12, i, len(job)] + list(job)
+
+
+def weave(kind, rows, cols, data):
+    return [13, kind, rows, cols, len(data)] + list(data)
+
+
+def unweave(kind, rows, cols, data):
+    return [14, kind, rows, cols, len(data)] + list(data)
+
+
+def dot(kind, rows, c, a, b):
+    return [15, kind, rows, len(c)] + list(c) + [len(a)] + list(a) + [len(b)] + list(b)
+
+
 def split(given):
     """The answers, a list each, of what `answers` gave back."""
     parts = []

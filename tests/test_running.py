@@ -4,7 +4,8 @@ import random
 import unittest
 
 from quiltwork.machine import answers
-from support import TOP, ask, get, last, make_shape, page, pattern, put, run, shape, shown, split, start, tile
+from samples import LOOKS, any_ground, any_program
+from support import ask, get, last, make_shape, page, pattern, put, run, shape, shown, split, start, tile
 
 END = [0, 0, 0, 0, 0]
 
@@ -63,68 +64,6 @@ class Paying(unittest.TestCase):
         self.assertEqual(given, [[0], [0], [3, 2, 0, 0] + data[1:3] + data[2:4]])
 
 
-def number(source):
-    return source.choice((0, 1, 4, 64, 100, 1000, 1020, TOP - 4, source.randrange(17000), source.randrange(TOP)))
-
-
-def any_shape(source):
-    widths, heights = [], []
-    for t in range(8):
-        there = source.randrange(6) > 0
-        widths.append(source.choice((4, 8, 12, 64, source.randrange(1, 65))) if there else 0)
-        heights.append(source.choice((1, 2, 3, 16)) if there else 0)
-    return [source.choice((0, 0, 0, 1, 7, 15))] + widths + heights
-
-
-def fitting_shape(source):
-    """A shape in which dots of 0, 1, 2 fit."""
-    height, count, depth = source.randrange(1, 5), source.randrange(1, 4), source.randrange(1, 4)
-    given = any_shape(source)
-    for t, size in enumerate(((4 * count, height), (4 * depth, height), (4 * count, depth))):
-        given[1 + t], given[9 + t] = size
-    return given
-
-
-def any_step(source, count):
-    kind = source.choice((1, 2, 3, 4, 4, 4, 4, 5, 5, 5, 6, 7, 8, 9, 10, 11, 11, 12, 12, 13, 14))
-    if kind == 2 and source.randrange(4) > 0:
-        kind = 1
-    if kind == 1:
-        return [1, 0, 0, 0, source.randrange(3)]
-    if kind in (4, 5):
-        return [kind, source.randrange(5), source.randrange(3), source.randrange(3, 5), source.randrange(0, 14000)]
-    if kind in (6, 7, 8, 9, 10):
-        return [kind, 0, 1, 2, 0]
-    if kind == 14:
-        return [14, source.randrange(5, 8), 0, 0, source.randrange(count)]
-    if kind == 3:
-        return [3, source.randrange(3), 0, 0, 0]
-    x = source.randrange(8)
-    small = source.choice((0, 1, 2, 3, 64, 100))
-    return [kind, x, source.randrange(8), 0, number(source) if source.randrange(10) == 0 else small]
-
-
-def any_program(source):
-    count = source.randrange(4, 40)
-    shapes = [fitting_shape(source) for q in range(3)]
-    steps = [[1, 0, 0, 0, 0]] + [any_step(source, count) for q in range(count)] + [END]
-    return start(steps, shapes)
-
-
-def any_ground(source):
-    """Bytes that are often zeros, or halves near 1, so that dots of pairs are often in range."""
-    data = []
-    while len(data) < 8192:
-        if source.randrange(2):
-            data += [0] * 16
-        else:
-            data += [source.randrange(256), source.choice((63, 64, 191))] * 8
-    return put(0, data)
-
-
-LOOKS = [shown()] + [tile(t) for t in range(8)] + [get(0, 8192), get(8192, 8192)]
-
-
 class Cuts(unittest.TestCase):
     TOTAL = 300
 
@@ -151,7 +90,7 @@ class Cuts(unittest.TestCase):
         source = random.Random(2024)
         kinds = {}
         for turn in range(250):
-            before = [any_ground(source), any_program(source)]
+            before = [put(0, any_ground(source)), start(*any_program(source))]
             uncut = self.uncut(before)
             kinds[tuple(uncut[0])] = True
             for again in range(2):
@@ -163,7 +102,7 @@ class Cuts(unittest.TestCase):
     def test_cut_everywhere(self):
         source = random.Random(5)
         for turn in range(8):
-            before = [any_ground(source), any_program(source)]
+            before = [put(0, any_ground(source)), start(*any_program(source))]
             for first in range(0, 60):
                 whole = split(answers(self.flat(*before, run(60), *LOOKS)))[2:]
                 calls = list(before) + [run(first), run(60 - first)] + LOOKS
@@ -173,7 +112,7 @@ class Cuts(unittest.TestCase):
         source = random.Random(77)
         stops = 0
         for turn in range(150):
-            before = [any_ground(source), any_program(source)]
+            before = [put(0, any_ground(source)), start(*any_program(source))]
             uncut = self.uncut(before)
             if uncut[0] == [1]:
                 continue
